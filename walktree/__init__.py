@@ -1,0 +1,1 @@
+"""A tree one walks through, whole."""
