@@ -48,6 +48,9 @@ def shown(tree):
     while waiting:
         node = waiting.pop()
         found.append(node)
+        # A tree gone wrong may run in a ring: that is to fail, not to go on for ever.
+        if len(found) > 128:
+            raise AssertionError("more than 128 nodes are shown")
         if node not in tree.shut:
             waiting.extend(reversed(tree.rows[node]))
     return found
