@@ -23,6 +23,8 @@ NOT_ANYWHERE = re.compile(
     r"\b(type|typing|typing_extensions|enum|Enum|IntEnum|StrEnum|Flag|IntFlag|Generic|Protocol|ABC|ABCMeta|namedtuple|"
     r"NamedTuple|TypedDict|TYPE_CHECKING|abstractmethod)\b|dataclass|overload|contextmanager"
 )
+WALKED_AT_ONCE = {"zip", "enumerate", "reversed", "range", "items", "keys", "values"}
+WALKING = {"list", "tuple", "dict", "sorted", "sum", "any", "all", "enumerate", "zip", "min", "max", "join"}
 NOT_AS_NAMES = {"register", "mro", "elements", "open", "input", "version_info", "with_traceback", "add_note"}
 PARTS = (
     ast.Module, ast.ImportFrom, ast.alias, ast.FunctionDef, ast.Lambda, ast.arguments, ast.arg, ast.ClassDef,
@@ -51,6 +53,33 @@ def names_of(node):
     return []
 
 
+def called(node):
+    """What a call calls by its last name."""
+    if not isinstance(node, ast.Call):
+        return None
+    return node.func.id if isinstance(node.func, ast.Name) else getattr(node.func, "attr", None)
+
+
+def faults_of_walks(module):
+    walked = []
+    for node in ast.walk(module):
+        if isinstance(node, (ast.For, ast.comprehension)):
+            walked.append(node.iter)
+        if called(node) in WALKING:
+            walked += node.args[:1]
+    return [
+        ("L23", ast.unparse(node)) for node in ast.walk(module) if called(node) in WALKED_AT_ONCE and node not in walked
+    ]
+
+
+def faults_of_values(module, methods):
+    """No name is a method in one class and a value in another."""
+    return [
+        ("L18", node.attr) for node in ast.walk(module)
+        if isinstance(node, ast.Attribute) and isinstance(node.ctx, ast.Store) and node.attr in methods
+    ]
+
+
 def faults_of_text(text):
     lines = text.split("\n")
     found = [("L10", "a file of over 400 lines")] if len(lines) > 401 else []
@@ -70,6 +99,8 @@ def faults_of_function(node):
     found = [("L10", node.name)] if length(node) > 40 else []
     if node.args.vararg or node.args.kwarg or node.args.kwonlyargs or node.args.posonlyargs or node.decorator_list:
         found.append(("L4", node.name))
+    if node.returns or [each for each in node.args.args if each.annotation]:
+        found.append(("L21", node.name))
     bound = {each.arg for each in node.args.args}
     bound |= {each.id for each in ast.walk(node) if isinstance(each, ast.Name) and isinstance(each.ctx, ast.Store)}
     return found + [("L15", name) for name in sorted(bound) if name in dir(builtins)]
@@ -99,6 +130,11 @@ def faults_of_part(node, methods):
         return [("L8", node.id)]
     if isinstance(node, (ast.While, ast.For)) and node.orelse or isinstance(node, ast.Try) and node.finalbody:
         return [("L6", "else behind a loop, or finally")]
+    if isinstance(node, ast.Compare) and [
+        each for sign, each in zip(node.ops, node.comparators)
+        if isinstance(sign, (ast.Is, ast.IsNot)) and ast.unparse(each) not in ("None", "True", "False")
+    ]:
+        return [("L20", ast.unparse(node))]
     if isinstance(node, ast.Assign) and len(node.targets) > 1:
         return [("L6", ast.unparse(node))]
     if isinstance(node, ast.Call) and isinstance(node.func, ast.Attribute) and node.func.attr not in METHODS | methods:
@@ -122,6 +158,7 @@ def faults_of(text):
         part.name for own in module.body if isinstance(own, ast.ClassDef) for part in own.body
         if isinstance(part, ast.FunctionDef)
     }
+    found += faults_of_walks(module) + faults_of_values(module, methods)
     for node in ast.walk(module):
         found += faults_of_part(node, methods)
         for name in names_of(node):
@@ -158,6 +195,11 @@ class Language(unittest.TestCase):
             ("L15", "'''top'''\nA = 1\nA = 2\n"),
             ("L15", "'''top'''\ndef f(min):\n    return min\n"),
             ("L17", "'''the type'''\n"),
+            ("L18", "'''top'''\nclass A:\n    def f(self):\n        self.f = 1\n"),
+            ("L20", "'''top'''\ndef f(x, y):\n    return x is y\n"),
+            ("L21", "'''top'''\ndef f(x: int):\n    return x\n"),
+            ("L23", "'''top'''\ndef f(xs, ys):\n    xs.extend(reversed(ys))\n"),
+            ("L23", "'''top'''\ndef f(d):\n    return d.items()\n"),
             ("L25", "'''top'''\ndef f(xs):\n    xs.sort()\n"),
         ):
             self.assertIn(rule, [found[0] for found in faults_of(text)], text)
